@@ -1,0 +1,1 @@
+"""Outweave: output of several hands, woven together."""
