@@ -4,6 +4,7 @@ import itertools
 import re
 import unittest
 
+from helper import short_texts
 from outweave.errors import NoSign
 from outweave.marks import items_of, text_of
 
@@ -33,12 +34,6 @@ def expected_kind(token):
     if token == "[]":
         return ("plain", "")
     return ("ground" if "/" in token else "ink", token[-2])
-
-
-def short_texts(alphabet, longest):
-    for length in range(longest + 1):
-        for signs in itertools.product(alphabet, repeat=length):
-            yield "".join(signs)
 
 
 def signs_from(place, text):

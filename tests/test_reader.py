@@ -1,19 +1,13 @@
 """[14] the reader, [13] its refusals, [3] the asker's own."""
 
-import itertools
 import os
 import unittest
 
+from helper import short_texts
 from outweave.errors import NoSign
 from outweave.marks import Reader, items_of
 
 ENDS = ["", "]", "[", "x", "a", "a]", "/a]", "/", "\n", ".]", "[]", "/.]"]
-
-
-def short_texts(alphabet, longest):
-    for length in range(longest + 1):
-        for signs in itertools.product(alphabet, repeat=length):
-            yield "".join(signs)
 
 
 def fed(pieces):
