@@ -2,6 +2,11 @@
 
 import itertools
 
+from outweave.letters import look
+from outweave.marks import items_of
+from outweave.rows import Maker
+from outweave.spots import breaks, fits
+
 OTHER_KINDS = [None, True, False, 1.0, 2.0, "1", "", "a", b"a", [], [1], (), (1,), {}, {1: 1}, {1}, object(), int]
 
 
@@ -30,6 +35,21 @@ def letters_of(text):
 
 def signs_of(letters):
     return "".join(letter[0] for letter in letters)
+
+
+def cells(text):
+    return sum(2 if "A" <= sign <= "Z" else 1 for sign in text)
+
+
+def foldings_at_breaks(letters, wide):
+    """All foldings at breaking places alone in which each line fits."""
+    places = breaks(letters)
+    for count in range(len(places)):
+        for inner in itertools.combinations(places[:-1], count):
+            ends = list(inner) + [len(letters)]
+            stretches = list(zip([0] + ends, ends))
+            if all(fits(letters, lo, hi, wide) for lo, hi in stretches):
+                yield stretches
 
 
 def nodes_of(trail):
@@ -75,3 +95,36 @@ def refused(case, error, call, *arguments):
         call(*arguments)
     case.assertIs(type(caught.exception), error)
     return caught.exception
+
+
+def whole_parts(text, most):
+    """The (look, word) of all parts of a text that is fed whole and closed."""
+    maker = Maker(most)
+    parts = [part for item in items_of(text) for part in maker.put(item)]
+    return [(look(letters), word) for letters, word in parts + maker.finish()]
+
+
+def some_text(chance, length):
+    """A text of many rows, colours, anew signs, great letters and marks that are none."""
+    bits = ["ab", "c ", "D", "  ", "e", "[a]", "[/b]", "[]", "[.]", "[/h]", "\n", "\t", "[[", "[", "/", "]", "F g"]
+    weights = [chance.choice([1, 2, 8]) for bit in bits]
+    return "".join(chance.choices(bits, weights, k=length))[:length]
+
+
+def some_pieces(chance, text):
+    pieces = []
+    while text:
+        cut = chance.choice([0, 1, 1, 2, 3, 9, 40])
+        pieces.append(text[:cut])
+        text = text[cut:]
+    return pieces
+
+
+def woven(chance, texts):
+    """All pieces of some texts, by name, in an order in which each hand's stay in theirs; then the closes."""
+    left = {name: some_pieces(chance, text) + [None] for name, text in texts.items()}
+    while left:
+        name = chance.choice(sorted(left))
+        yield name, left[name].pop(0)
+        if not left[name]:
+            del left[name]
