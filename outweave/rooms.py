@@ -72,23 +72,23 @@ class Plan:
         check_rooms(high, wide, rooms)
         self.high = high
         self.wide = wide
-        self.rooms = {}
+        self.room_by_name = {}
         for room in rooms:
-            self.rooms[room[NAME]] = room
+            self.room_by_name[room[NAME]] = room
 
     def screen_size(self):
         return (self.high, self.wide)
 
     def room_names(self):
-        return list(self.rooms)
+        return list(self.room_by_name)
 
     def room_of(self, name):
-        return of_name(self.rooms, name)
+        return of_name(self.room_by_name, name)
 
     def room_at(self, row, col):
         if not is_within(row, 0, self.high - 1) or not is_within(col, 0, self.wide - 1):
             raise NoCell("the screen has no such cell")
-        for room in self.rooms.values():
+        for room in self.room_by_name.values():
             if has_cell(room, row, col):
                 return room[NAME]
         return None

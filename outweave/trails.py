@@ -10,12 +10,12 @@ class Trail:
 class Listed(Trail):
     def __init__(self, sizes, moves, ends):
         self.sizes = list(sizes)
-        self.moves = {}
+        self.moves_by_node = {}
         for move in moves:
-            self.moves.setdefault(move[0], []).append((move[1], move[2], move[3]))
-        self.ends = {}
+            self.moves_by_node.setdefault(move[0], []).append((move[1], move[2], move[3]))
+        self.end_nodes = {}
         for node in ends:
-            self.ends[node] = True
+            self.end_nodes[node] = True
 
     def first_node(self):
         return (0, 0)
@@ -27,10 +27,10 @@ class Listed(Trail):
         return [(at, state) for state in range(self.sizes[at])]
 
     def moves_from(self, node):
-        return list(self.moves.get(node, []))
+        return list(self.moves_by_node.get(node, []))
 
     def is_end(self, node):
-        return node in self.ends
+        return node in self.end_nodes
 
 
 def all_nodes(trail):

@@ -14,15 +14,17 @@ def folded(letters, room):
     return [shown_of(letters[lo:hi], room[BROAD]) for lo, hi in stretches]
 
 
-def last_lines(lines, room):
-    return lines[-room[TALL]:]
+# Apart from lines_of, so that a board need not fold again what it folded when a part was told.
+def last_lines(folds, letters, room):
+    lines = []
+    for part_lines in folds:
+        lines.extend(part_lines)
+    if len(letters) > 0:
+        lines.extend(folded(letters, room))
+    return [list(line) for line in lines[-room[TALL]:]]
 
 
 def lines_of(parts, letters, room):
-    lines = []
     # Each part has a line at least, so no part ahead of the last tall ones is shown.
-    for part in parts[-room[TALL]:]:
-        lines.extend(folded(part[0], room))
-    if len(letters) > 0:
-        lines.extend(folded(letters, room))
-    return last_lines(lines, room)
+    folds = [folded(part[0], room) for part in parts[-room[TALL]:]]
+    return last_lines(folds, letters, room)

@@ -22,6 +22,13 @@ PYTHONS_METHODS = set("""
 TWO_UNDERSCORES = {"__init__", "__eq__", "__repr__", "__str__", "__len__"}
 UNUSED_NAMES = set("""
     register mro elements open input version_info with_traceback add_note format format_map""".split())
+NOT_AS_NAMES = set("""
+    attrgetter breakpoint builtins compile copyright credits delattr dir eval exec exit gc getattr globals hasattr
+    help id importlib license locals methodcaller os quit setattr super type vars sys chr""".split())
+FREE_AS_VALUES = set("count index title find get join lower upper split strip copy add".split())
+WALKERS = set("zip enumerate reversed range".split())
+WALKED_BY = set("list tuple dict sorted sum any all enumerate zip min max".split())
+CHECKED_KINDS = set("int str bool list tuple dict".split())
 UNUSED_WORDS = re.compile(
     r"\b(type|typing|typing_extensions|enum|Enum|IntEnum|StrEnum|Flag|IntFlag|Generic|Protocol|ABC|ABCMeta"
     r"|namedtuple|NamedTuple|TypedDict|TYPE_CHECKING|abstractmethod)\b|dataclass|overload|contextmanager")
@@ -173,8 +180,100 @@ class Names(unittest.TestCase):
                    if isinstance(part, ast.FunctionDef)}
         values = {node.attr for where, node in nodes_of(ast.Attribute) if isinstance(node.ctx, ast.Store)}
         self.assertEqual(methods & values, set())
+        pythons = {name for kind in (str, int, list, dict, set, bytes) for name in dir(kind)}
+        self.assertEqual((methods - TWO_UNDERSCORES) & pythons - PYTHONS_METHODS - {"add", "discard"}, set())
+        self.assertEqual(values & pythons - FREE_AS_VALUES, set())
+        self.assertEqual(values & {"args"}, set())
         for where, node in nodes_of(ast.Attribute):
             self.assertIn(node.attr, methods | values | PYTHONS_METHODS | TWO_UNDERSCORES, where)
+
+    def test_not_used(self):
+        for where, node in nodes_of(ast.Name):
+            self.assertNotIn(node.id, NOT_AS_NAMES, where)
+
+
+def parents():
+    """Each node with the one around it."""
+    for name, tree in read():
+        for parent in ast.walk(tree):
+            for child in ast.iter_child_nodes(parent):
+                yield f"{name}:{getattr(child, 'lineno', 0)}", parent, child
+
+
+def called(node):
+    return node.func.id if isinstance(node, ast.Call) and isinstance(node.func, ast.Name) else ""
+
+
+class Narrower(unittest.TestCase):
+    def test_no_two_files_draw_from_one_another(self):
+        drawn = {name[:-3]: {node.module.split(".")[1] for node in ast.walk(tree) if isinstance(node, ast.ImportFrom)}
+                 for name, tree in read()}
+        while drawn:
+            free = [name for name in drawn if not drawn[name] & set(drawn)]
+            self.assertNotEqual(free, [], drawn)
+            drawn = {name: drawn[name] for name in drawn if name not in free}
+
+    def test_each_import_is_used(self):
+        for name, tree in read():
+            used = {node.id for node in ast.walk(tree) if isinstance(node, ast.Name)}
+            for node in ast.walk(tree):
+                if isinstance(node, ast.ImportFrom):
+                    self.assertEqual({alias.name for alias in node.names} - used, set(), name)
+
+    def test_walked_at_once(self):
+        for where, parent, node in parents():
+            method = node.func.attr if isinstance(node, ast.Call) and isinstance(node.func, ast.Attribute) else ""
+            if called(node) in WALKERS or method in ("items", "keys", "values"):
+                in_loop = isinstance(parent, (ast.For, ast.comprehension)) and parent.iter is node
+                in_call = called(parent) in WALKED_BY and parent.args[0] is node
+                self.assertTrue(in_loop or in_call, where)
+
+    def test_sets(self):
+        for where, parent, node in parents():
+            self.assertNotIsInstance(node, ast.Set, where)
+            if called(node) == "set":
+                self.assertIn(called(parent), ("sorted", "len"), where)
+
+    def test_handlers(self):
+        own = {node.name for where, node in nodes_of(ast.ClassDef)}
+        for where, node in nodes_of(ast.ExceptHandler):
+            self.assertIsInstance(node.type, ast.Name, where)
+            self.assertIn(node.type.id, own | {"KeyError", "ZeroDivisionError", "StopIteration"}, where)
+        for where, node in nodes_of(ast.Raise):
+            self.assertIn(called(node.exc), own, where)
+
+    def test_kinds_asked_for(self):
+        own = {node.name for where, node in nodes_of(ast.ClassDef)}
+        for where, node in nodes_of(ast.Call):
+            if called(node) == "isinstance":
+                kinds = node.args[1].elts if isinstance(node.args[1], ast.Tuple) else [node.args[1]]
+                self.assertLessEqual({kind.id for kind in kinds}, CHECKED_KINDS | own, where)
+
+    def test_powers(self):
+        for where, node in nodes_of(ast.BinOp):
+            if isinstance(node.op, ast.Pow):
+                self.assertIsInstance(node.right, ast.Constant, where)
+                self.assertLessEqual(node.right.value, 64, where)
+
+    def test_tops_are_only_read(self):
+        for name, tree in read():
+            tops = [node for node in tree.body if isinstance(node, ast.Assign)
+                    and isinstance(node.value, (ast.List, ast.Dict))]
+            for top in tops:
+                for node in list(ast.walk(top.value))[1:]:
+                    self.assertNotIsInstance(node, (ast.List, ast.Dict), name)
+            kept = {top.targets[0].id for top in tops}
+            for where, parent, node in parents():
+                if where.startswith(name + ":") and isinstance(node, ast.Name) and node.id in kept:
+                    if isinstance(node.ctx, ast.Load):
+                        self.assertIsInstance(parent, (ast.Attribute, ast.Subscript, ast.Compare), where)
+                        self.assertIn(getattr(parent, "attr", "get"), ("get",), where)
+                        self.assertNotIsInstance(getattr(parent, "ctx", None), ast.Store, where)
+
+    def test_no_annotations(self):
+        for where, node in nodes_of(ast.FunctionDef):
+            self.assertIsNone(node.returns, where)
+            self.assertEqual([argument.annotation for argument in node.args.args if argument.annotation], [], where)
 
 
 if __name__ == "__main__":

@@ -3,20 +3,11 @@
 import string
 import unittest
 
+from helper import Odd
 from outweave.errors import NoSign
 from outweave.signs import checked, is_colour, is_name, is_sign, width_of
 
 SIGNS = [chr(code) for code in range(32, 126)]
-
-
-class Odd:
-    def __eq__(self, other):
-        raise RuntimeError("never compared")
-
-    def __len__(self):
-        raise RuntimeError("never measured")
-
-    __hash__ = None
 
 
 OTHER_KINDS = [
