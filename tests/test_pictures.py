@@ -53,6 +53,9 @@ class Drawn(unittest.TestCase):
         full = drawn(blank(3, 6), ("a", 0, 0, 3, 6, "cut"), [letters_of("abcdef")] * 3)
         self.assertEqual(signs(drawn(full, ("b", 1, 2, 1, 2, "cut"), [letters_of("x")])), [
             "abcdef", "abx ef", "abcdef"])
+        full = drawn(blank(3, 6), ("a", 0, 0, 3, 6, "cut"), [letters_of(text) for text in ("abcdef", "ghijkl", "mNOp")])
+        self.assertEqual(signs(drawn(full, ("b", 1, 3, 2, 2, "cut"), [letters_of("x"), letters_of("yz")])), [
+            "abcdef", "ghix l", "mN_yzp"])
 
     def test_each_room_of_several(self):
         picture = drawn(blank(2, 6), ("a", 0, 0, 2, 3, "cut"), [letters_of("A"), letters_of("b")])

@@ -91,6 +91,8 @@ class RefusedRooms(unittest.TestCase):
         for room in (("bo", -1, 4, 1, 3, "cut"), ("bo", 0, -1, 1, 3, "cut"), ("bo", 0, 4, 0, 3, "cut"),
                      ("bo", 0, 4, -1, 3, "cut"), ("bo", 0, 4, 1, 1, "cut"), ("bo", 0, 4, 1, 0, "cut")):
             self.assertEqual(self.refused_at([ANN, room]), 1, room)
+        for room in (("bo", -1, 0, 2, 4, "cut"), ("bo", 0, -1, 2, 4, "cut")):
+            self.assertEqual(self.refused_at([room]), 0, room)
 
     def test_beyond_the_screen(self):
         for room in (("bo", 2, 0, 2, 2, "cut"), ("bo", 3, 0, 1, 2, "cut"), ("bo", 2, 7, 1, 2, "cut"),

@@ -187,6 +187,8 @@ class Finish(unittest.TestCase):
         return maker, shown(parts)
 
     def test_when_it_tells(self):
+        self.assertEqual(self.finished("a")[1], [("a", "whole")])
+        self.assertEqual(self.finished("a", 1)[1], [("a", "whole")])
         self.assertEqual(self.finished("ab")[1], [("ab", "whole")])
         self.assertEqual(self.finished("x\nab")[1], [("ab", "whole")])
         self.assertEqual(self.finished("ab\t")[1], [("ab", "whole")])
